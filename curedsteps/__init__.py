@@ -1,0 +1,1 @@
+"""A part that is cured in a heated mould, minute by minute."""
