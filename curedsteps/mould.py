@@ -54,6 +54,12 @@ def may_go(mould, point, other):
     return abs(other - point) <= mould.step
 
 
+# Where a whole step leads out of the bounds it isn't taken at all: it isn't cut short.
+def points_by_whole_steps(mould, point):
+    others = (point - mould.step, point, point + mould.step)
+    return [other for other in others if is_point(mould, other)]
+
+
 def may_come_in_turn(mould, point, programme):
     before = point
     for other in programme:

@@ -1,9 +1,12 @@
 """The calls on one oven, and their answers."""
 
-from curedsteps.mould import MOST_WARMTH, Mould, is_as_told, is_point, may_come_in_turn, may_go
-from curedsteps.part import Part, course, is_cured, is_ever_too_hot
+from curedsteps.mould import MOST_WARMTH, Mould
+from curedsteps.mould import is_as_told, is_point, may_come_in_turn, may_go, points_by_whole_steps, rate_at
+from curedsteps.part import Part, course, is_cured, is_ever_too_hot, is_too_hot
 from curedsteps.reader import Reader
+from curedsteps.ways import farthest_way, soonest_way
 
+NONE_SO_FAR_BACK = -6
 NOT_STARTED = -11
 MAY_NOT_GO = -13
 OUT_OF_BOUNDS = -22
@@ -14,6 +17,9 @@ START = 0
 
 MOST_MINUTES = 300
 LONGEST_PROGRAMME = 30
+LONGEST_SEARCH = 6
+LONGEST_NEED = 60
+LONGEST_LOG = 100
 
 
 # The mould is None before a start that isn't refused: that is how the other calls know.
@@ -23,6 +29,7 @@ class Oven:
         self.part = None
         self.point = 0
         self.minutes = 0
+        self.log = []
 
 
 # Not held back by what is too hot: this tells what would be, it doesn't let it come to be.
@@ -48,6 +55,8 @@ def carry_out(oven, programme):
     oven.part = parts[-1]
     oven.point = programme[-1]
     oven.minutes += len(programme)
+    warmths = [part.warmth for part in parts[1:]]
+    oven.log = (oven.log + warmths)[-LONGEST_LOG:]
     return told_of(oven.part)
 
 
@@ -63,6 +72,8 @@ def start(oven, given):
     oven.part = Part(mould.low, 0)
     oven.point = mould.low
     oven.minutes = 0
+    # At minute 0 no minute has gone by yet, so there is none to look back to.
+    oven.log = []
     return [0]
 
 
@@ -136,15 +147,87 @@ def follow(oven, given):
     return carry_out(oven, programme)
 
 
+def soonest(oven, given):
+    minutes = given[0]
+    if minutes > LONGEST_SEARCH:
+        return [OUT_OF_BOUNDS]
+    way = soonest_way(oven.mould, oven.part, oven.point, minutes)
+    if way is None:
+        return [NOT_IN_TIME]
+    return [len(way.programme)] + way.programme
+
+
+def farthest(oven, given):
+    minutes = given[0]
+    if minutes > LONGEST_SEARCH:
+        return [OUT_OF_BOUNDS]
+    way = farthest_way(oven.mould, oven.part, oven.point, minutes)
+    if way is None:
+        return [NOT_IN_TIME]
+    return [way.part.cure] + way.programme
+
+
+def rate(oven, given):
+    warmth = given[0]
+    if warmth > MOST_WARMTH:
+        return [OUT_OF_BOUNDS]
+    return [rate_at(oven.mould, warmth)]
+
+
+def next_points(oven, given):
+    points = points_by_whole_steps(oven.mould, oven.point)
+    return [len(points)] + points
+
+
+def new_part(oven, given):
+    fresh = Part(given[0], 0)
+    if is_too_hot(oven.mould, fresh):
+        return [OUT_OF_BOUNDS]
+    cure = oven.part.cure
+    oven.part = fresh
+    return [cure]
+
+
+def look_back(oven, given):
+    back = given[0]
+    if back >= len(oven.log):
+        return [NONE_SO_FAR_BACK]
+    return [oven.log[-1 - back]]
+
+
+def safe(oven, given):
+    minutes = given[0]
+    if minutes > MOST_MINUTES:
+        return [OUT_OF_BOUNDS]
+    return [0 if is_ever_too_hot(oven.mould, course_held(oven, minutes)) else 1]
+
+
+# Every set point is tried: as the table's rates needn't rise, a warmer one may cure less.
+def need(oven, given):
+    minutes = given[0]
+    if minutes > LONGEST_NEED:
+        return [OUT_OF_BOUNDS]
+    for point in range(oven.mould.low, oven.mould.high + 1):
+        parts = course(oven.mould, oven.part, [point] * minutes)
+        if is_cured(parts[-1]) and not is_ever_too_hot(oven.mould, parts):
+            return [point]
+    return [NOT_IN_TIME]
+
+
+def state(oven, given):
+    return [oven.minutes, oven.part.warmth, oven.point, oven.part.cure, len(oven.log)]
+
+
 # A call's number is its place here.
-CALLS = (start, set_to, pass_by, would, hottest, left, cooled, cured, run, follow)
+CALLS = (
+    start, set_to, pass_by, would, hottest, left, cooled, cured, run, follow,
+    soonest, farthest, rate, next_points, new_part, look_back, safe, need, state,
+)
 
 
 def answer(oven, call, given):
     if call != START and oven.mould is None:
         return [NOT_STARTED]
-    if call >= len(CALLS):
-        raise NotImplementedError(f"call {call} is not built yet")
     ask = CALLS[call]
     return ask(oven, given)
 

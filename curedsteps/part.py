@@ -16,6 +16,10 @@ def is_cured(part):
     return part.cure >= FULL_CURE
 
 
+def is_too_hot(mould, part):
+    return part.warmth > mould.most
+
+
 def warmth_later(mould, warmth, point):
     gap = abs(point - warmth)
     # Rounded up, so that a gap of 1 is closed too; never more than the gap, as the lag is 1 at least.
@@ -41,4 +45,4 @@ def course(mould, part, programme):
 
 
 def is_ever_too_hot(mould, parts):
-    return any([part.warmth > mould.most for part in parts])
+    return any([is_too_hot(mould, part) for part in parts])

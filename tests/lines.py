@@ -45,6 +45,42 @@ def follow(*programme):
     return [9, len(programme), *programme]
 
 
+def soonest(minutes):
+    return [10, minutes]
+
+
+def farthest(minutes):
+    return [11, minutes]
+
+
+def rate(warmth):
+    return [12, warmth]
+
+
+def next_points():
+    return [13]
+
+
+def new_part(warmth):
+    return [14, warmth]
+
+
+def log(back):
+    return [15, back]
+
+
+def safe(minutes):
+    return [16, minutes]
+
+
+def need(minutes):
+    return [17, minutes]
+
+
+def state():
+    return [18]
+
+
 def take_apart(told):
     """The answers to each call, as a list of lists."""
     apart = []
@@ -70,10 +106,24 @@ def last(*calls):
     return ask(*calls)[-1]
 
 
+def log_behind(*calls):
+    """All that the log keeps behind these calls, the last minute first."""
+    told = []
+    # A line holds 200 calls, so one may not have room for all of them.
+    room = 200 - len(calls)
+    while [-6] not in told:
+        looks = [log(back) for back in range(len(told), len(told) + room)]
+        told += ask(*calls, *looks)[len(calls):]
+    return [warmth for [warmth] in told[:told.index([-6])]]
+
+
 def seen_behind(*calls):
     """All that can be seen of the object behind these calls."""
-    looks = [cured(), left(), hottest(300), run(), cooled(20), cooled(99)]
+    looks = [state(), cured(), left(), hottest(300), run(), cooled(20), cooled(99), safe(300), next_points(), farthest(2),
+             soonest(2), need(3)]
     looks += [would(minutes) for minutes in (0, 1, 2, 5, 300)]
+    looks += [log(back) for back in (0, 1, 2, 3, 10, 50, 98, 99, 100)]
+    looks += [rate(warmth) for warmth in range(0, 301, 10)]
     # Each is asked of an object of its own, as one that isn't refused tells the set point but changes it.
     points = [last(*calls, set_to(point)) for point in range(0, 301, 10)]
     return ask(*calls, *looks)[len(calls):] + points

@@ -2,10 +2,9 @@
 
 import random
 import unittest
-from fractions import Fraction
-from math import ceil
 
-from tests.lines import BIGGEST, ask, cooled, cured, follow, hottest, left, pass_by, run, set_to, start, would
+from tests.lines import BIGGEST, ask, cooled, cured, farthest, follow, hottest, left, log, log_behind, need, new_part
+from tests.lines import next_points, pass_by, rate, run, safe, set_to, soonest, start, state, would
 
 
 class Told:
@@ -23,13 +22,17 @@ class Told:
         self.table = dict(zip(warms, rates))
         self.warmth = self.point = low
         self.cure = 0
+        self.past = []
         return [0]
 
     def minute(self, warmth, cure, point):
-        share = ceil(Fraction(abs(point - warmth), self.bounds[0]))
+        share = -(-abs(point - warmth) // self.bounds[0])
         warmth += share if point > warmth else -share
+        return warmth, min(10000, cure + self.row(warmth))
+
+    def row(self, warmth):
         reached = [warm for warm in self.table if warm <= warmth]
-        return warmth, min(10000, cure + (self.table[max(reached)] if reached else 0))
+        return self.table[max(reached)] if reached else 0
 
     def ahead(self, points):
         seen = [(self.warmth, self.cure)]
@@ -51,7 +54,8 @@ class Told:
         if self.bounds is None:
             return [-11]
         named = (None, self.set, self.pass_by, self.would, self.hottest, self.left, self.cooled, self.cured, self.run,
-                 self.follow)[call[0]]
+                 self.follow, self.soonest, self.farthest, self.rate, self.next_points, self.new_part, self.log, self.safe,
+                 self.need, self.state)[call[0]]
         return named(call[2:]) if call[0] in (8, 9) else named(*call[1:])
 
     def set(self, point):
@@ -69,7 +73,9 @@ class Told:
     def go(self, points):
         if not self.does(points):
             return [-62]
-        self.warmth, self.cure = self.ahead(points)[-1]
+        # Every minute is kept from the start on; only log and state look at no more than the last 100.
+        self.past += self.ahead(points)[1:]
+        self.warmth, self.cure = self.past[-1]
         self.point = points[-1]
         return [self.warmth, self.cure]
 
@@ -97,6 +103,69 @@ class Told:
 
     def follow(self, points):
         return self.go(points) if len(points) in range(1, 31) else [-22]
+
+    def programmes(self, minutes, begun=()):
+        """Each programme by whole steps that does, with how far it cures: depth first, so in order."""
+        if not self.does(list(begun)):
+            return
+        if len(begun) == minutes:
+            yield list(begun), self.ahead(begun)[-1][1]
+            return
+        lag, most, step, low, high = self.bounds
+        before = begun[-1] if begun else self.point
+        for point in (before - step, before, before + step):
+            yield from self.programmes(minutes, (*begun, point))
+
+    def soonest(self, minutes):
+        if minutes > 6:
+            return [-22]
+        for length in range(minutes + 1):
+            for points, cure in self.programmes(length):
+                if cure == 10000:
+                    return [length] + points
+        return [-33]
+
+    def farthest(self, minutes):
+        if minutes > 6:
+            return [-22]
+        found = list(self.programmes(minutes))
+        best = max([cure for points, cure in found], default=-33)
+        return [best] + next((points for points, cure in found if cure == best), [])
+
+    def rate(self, warmth):
+        return [-22] if warmth > 300 else [self.row(warmth)]
+
+    def next_points(self):
+        lag, most, step, low, high = self.bounds
+        points = [point for point in range(low, high + 1) if abs(point - self.point) in (0, step)]
+        return [len(points)] + points
+
+    def new_part(self, warmth):
+        if warmth > self.bounds[1]:
+            return [-22]
+        old, self.warmth, self.cure = self.cure, warmth, 0
+        return [old]
+
+    def log(self, back):
+        return [self.past[len(self.past) - 1 - back][0]] if back < min(100, len(self.past)) else [-6]
+
+    def safe(self, minutes):
+        if minutes > 300:
+            return [-22]
+        return [int(self.hottest(minutes)[0] <= self.bounds[1])]
+
+    def need(self, minutes):
+        if minutes > 60:
+            return [-22]
+        lag, most, step, low, high = self.bounds
+        for point in range(low, high + 1):
+            seen = self.ahead([point] * minutes)
+            if max(warmth for warmth, cure in seen) <= most and (10000 in [cure for warmth, cure in seen]):
+                return [point]
+        return [-33]
+
+    def state(self):
+        return [len(self.past), self.warmth, self.point, self.cure, min(100, len(self.past))]
 
 
 def some_start(chance):
@@ -128,15 +197,37 @@ def some_programme(chance, told):
 
 def some_call(chance, told):
     minutes = chance.choice([0, 1, 1, 2, 3, 10, 60, 299, 300, 301, BIGGEST, chance.randrange(40)])
-    kind = chance.choice("spppwhlcdrrfff" + "tttt" * 2)
+    kind = chance.choice("spppwhlcdrrfff" + "tttt" * 2 + "SSFRNPPLLLAEEZ")
     if kind == "t":
         return set_to(min(BIGGEST, max(0, (told.point if told.bounds else 0) + chance.randint(-60, 110))))
     if kind in "rf":
         return (run if kind == "r" else follow)(*some_programme(chance, told))
-    calls = {"p": pass_by(minutes), "w": would(minutes), "h": hottest(minutes), "l": left(), "d": cured()}
     if kind == "s":
         return some_start(chance) if chance.random() < 0.2 else cured()
-    return calls.get(kind) or cooled(chance.choice([0, 19, 20, 60, 299, 300, 301, BIGGEST, chance.randrange(301)]))
+    warmth = chance.choice([0, 19, 20, 60, 299, 300, 301, BIGGEST, chance.randrange(301)])
+    few = chance.choice([0, 1, 1, 2, 2, 3, 3, 4, 5, 6, 7, BIGGEST])
+    if kind == "P" and told.bounds:
+        warmth = max(0, told.bounds[1] + chance.choice([0, 1, -1, -10, -40, -100, BIGGEST - 300]))
+    back = chance.choice([0, 0, 1, 2, 5, 20, 98, 99, 100, 101, BIGGEST, chance.randrange(100)])
+    wait = chance.choice([0, 1, 2, 3, 4, 6, 9, 20, 60, 61, BIGGEST])
+    return {"p": pass_by(minutes), "w": would(minutes), "h": hottest(minutes), "l": left(), "d": cured(),
+            "c": cooled(warmth), "S": soonest(few), "F": farthest(few), "R": rate(warmth), "N": next_points(),
+            "P": new_part(warmth), "L": log(back), "A": safe(minutes), "E": need(wait), "Z": state()}[kind]
+
+
+def some_line(chance, length):
+    """A line of so many calls, with what the second telling answers to each."""
+    told = Told()
+    calls, due = [], []
+    for number in range(length):
+        first = number == 0 or told.bounds is None and chance.random() < 0.3
+        calls.append(some_start(chance) if first else some_call(chance, told))
+        due.append(told.answer(calls[-1]))
+    return calls, due
+
+
+REFUSALS = ((-22,), (-22, -13), (-22, -62), (-22,), (-22,), (-33,), (-22, -33), (), (-22, -62), (-22, -62), (-22, -33),
+            (-22, -33), (-22,), (), (-22,), (-6,), (-22,), (-22, -33), ())
 
 
 class AgainstTheSecondTelling(unittest.TestCase):
@@ -144,21 +235,24 @@ class AgainstTheSecondTelling(unittest.TestCase):
         chance = random.Random(20261116)
         seen = {}
         for turn in range(1500):
-            told = Told()
-            calls, due = [], []
-            for number in range(chance.randint(1, 30)):
-                call = some_start(chance) if number == 0 or told.bounds is None and chance.random() < 0.6 else \
-                    some_call(chance, told)
-                calls.append(call)
-                due.append(told.answer(call))
-                kept = (call[0], min(0, due[-1][0]))
-                seen[kept] = seen.get(kept, 0) + 1
+            calls, due = some_line(chance, chance.randint(1, 30))
             self.assertEqual(ask(*calls), due, calls)
+            for call, numbers in zip(calls, due):
+                kept = (call[0], min(0, numbers[0]))
+                seen[kept] = seen.get(kept, 0) + 1
         # The lines are worth something only if every answer and every refusal came up often.
-        for kept in ((0, 0), (0, -22), (1, 0), (1, -22), (1, -13), (2, 0), (2, -22), (2, -62), (3, 0), (3, -22), (4, 0),
-                     (4, -22), (5, 0), (5, -33), (6, 0), (6, -22), (6, -33), (7, 0), (8, 0), (8, -22), (8, -62), (9, 0),
-                     (9, -22), (9, -62), *[(call, -11) for call in range(1, 10)]):
-            self.assertGreater(seen.get(kept, 0), 20, kept)
+        for call, refusals in enumerate(REFUSALS):
+            for number in (0, *refusals, *[-11] * (call > 0)):
+                self.assertGreater(seen.get((call, number), 0), 10, (call, number))
+
+    def test_lines_of_200_calls(self):
+        chance = random.Random(200)
+        kinds = set()
+        for turn in range(30):
+            calls, due = some_line(chance, 200)
+            self.assertEqual(ask(*calls), due, calls)
+            kinds |= {call[0] for call in calls}
+        self.assertEqual(kinds, set(range(19)))
 
 
 class WhatHolds(unittest.TestCase):
@@ -193,8 +287,11 @@ class WhatHolds(unittest.TestCase):
                 told.answer(calls[-3])
             seen = ask(*calls)
             self.assertTrue(all(now[0] <= 90 for now in seen[2::3]))
+            self.assertTrue(all(warmth <= 90 for warmth in log_behind(*calls)))
             cures = [now[1] for now in seen[3::3]]
-            self.assertEqual(cures, sorted(cures))
+            for call, answered, before, after in zip(calls[4::3], seen[4::3], cures, cures[1:]):
+                # Only another part is less cured than the one before.
+                self.assertTrue(before <= after or call[0] == 14 and answered == [before] and after == 0, call)
 
     def test_minutes_at_once_or_one_behind_another(self):
         for lag in (1, 4, 50):

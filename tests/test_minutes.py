@@ -1,7 +1,7 @@
 import unittest
 
-from tests.lines import BIGGEST, ask, cooled, cured, follow, hottest, last, left, pass_by, run, seen_behind, set_to
-from tests.lines import start, would
+from tests.lines import BIGGEST, ask, cooled, cured, follow, hottest, last, left, new_part, pass_by, run, safe
+from tests.lines import seen_behind, set_to, start, would
 
 WARM = (start(), set_to(100))
 # A lag of 4 from 20 towards 100, by hand: the difference's quarter, rounded up; 10 a minute from 60, 100 from 100.
@@ -135,6 +135,42 @@ class Hottest(unittest.TestCase):
         self.assertEqual(last(*HOT, hottest(300)), [120])
 
 
+class Safe(unittest.TestCase):
+    def test_ordinary(self):
+        # Towards 120 by halves: 70, then 95, which is above 80.
+        self.assertEqual(ask(*HOT, safe(0), safe(1), safe(2), safe(3), safe(300))[2:], [[1], [1], [0], [0], [0]])
+        self.assertEqual(ask(*WARM, safe(0), safe(1), safe(300))[2:], [[1], [1], [1]])
+
+    def test_bounds(self):
+        for calls in (WARM, HOT):
+            self.assertEqual(ask(*calls, safe(301), safe(BIGGEST))[2:], [[-22], [-22]])
+        self.assertEqual(ask(*WARM, safe(300))[2:], [[1]])
+
+    def test_the_last_minute_counts(self):
+        # From 0 to 100 by one part in 50: 25 minutes by 2, then 50 by 1.
+        told = dict(lag=50, step=100, low=0, high=100)
+        self.assertEqual(ask(start(most=99, **told), set_to(100), safe(74), safe(75), safe(300))[2:], [[1], [0], [0]])
+        self.assertEqual(ask(start(most=100, **told), set_to(100), safe(75), safe(300))[2:], [[1], [1]])
+
+    def test_a_set_point_just_the_most(self):
+        told = start(lag=1, most=100)
+        self.assertEqual(ask(told, set_to(100), safe(300), set_to(101), safe(0), safe(1))[2::2], [[1], [1]])
+        self.assertEqual(last(told, set_to(101), safe(1)), [0])
+
+    def test_going_down_from_the_most(self):
+        self.assertEqual(ask(start(most=90), new_part(90), safe(0), safe(1), safe(300))[2:], [[1], [1], [1]])
+
+    def test_it_is_whether_pass_is_not_too_hot(self):
+        for point in range(20, 121):
+            for minutes in (1, 2, 3, 5, 300):
+                calls = (HOT[0], set_to(point))
+                self.assertEqual(last(*calls, safe(minutes)) == [1], last(*calls, pass_by(minutes)) != [-62])
+
+    def test_it_answers_whole_numbers(self):
+        for minutes in (1, 2):
+            self.assertIs(type(last(*HOT, safe(minutes))[0]), int)
+
+
 class Left(unittest.TestCase):
     def test_ordinary(self):
         self.assertEqual(ask(*WARM, left(), pass_by(11), left(), pass_by(99), left(), pass_by(1), left())[2:],
@@ -187,7 +223,8 @@ class Cooled(unittest.TestCase):
 class LookingAhead(unittest.TestCase):
     def test_it_changes_nothing(self):
         looks = (would(0), would(7), would(300), would(301), hottest(0), hottest(300), hottest(301), left(), cooled(0),
-                 cooled(40), cooled(300), cooled(301), cured(), run(), run(99, 98), run(*[100] * 30), run(*[100] * 31))
+                 cooled(40), cooled(300), cooled(301), cured(), run(), run(99, 98), run(*[100] * 30), run(*[100] * 31),
+                 safe(0), safe(1), safe(300), safe(301))
         for before in (WARM, BACK, (*HOT, pass_by(1)), (*WARM, pass_by(3), follow(30, 50)), (*WARM, pass_by(300))):
             for look in looks:
                 with self.subTest(before=before, look=look):

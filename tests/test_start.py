@@ -1,7 +1,7 @@
 import unittest
 
-from curedsteps.oven import Oven, answer
-from tests.lines import BIGGEST, ask, cured, follow, last, left, pass_by, run, seen_behind, set_to, start, would
+from tests.lines import BIGGEST, ask, cured, follow, last, left, new_part, pass_by, run, seen_behind, set_to, start, state
+from tests.lines import would
 
 
 class StartIsTaken(unittest.TestCase):
@@ -109,16 +109,10 @@ class StartComesAgain(unittest.TestCase):
 
 class Minutes(unittest.TestCase):
     def test_they_are_counted_from_each_start_that_is_taken(self):
-        oven = Oven()
-        counts = []
-        for call in (
-            start(), set_to(100), pass_by(3), would(9), left(), run(200, 200), pass_by(301), follow(150, 200), follow(),
-            start(lag=0), start(),
-        ):
-            given = call[1:6] + [call[7:9], call[10:]] if call[0] == 0 else call[1:]
-            answer(oven, call[0], [call[2:]] if call[0] in (8, 9) else given)
-            counts.append(oven.minutes)
-        self.assertEqual(counts, [0, 0, 3, 3, 3, 3, 3, 5, 5, 5, 0])
+        calls = (start(), set_to(100), pass_by(3), would(9), left(), run(200, 200), pass_by(301), follow(150, 200), follow(),
+                 new_part(30), start(lag=0), start(), pass_by(2))
+        counts = [last(*calls[:length], state())[0] for length in range(1, len(calls) + 1)]
+        self.assertEqual(counts, [0, 0, 3, 3, 3, 3, 3, 5, 5, 5, 5, 0, 2])
 
 
 if __name__ == "__main__":
